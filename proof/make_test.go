@@ -55,10 +55,10 @@ func checkAsked(t *testing.T, s *spy, want []uint64) {
 	s.asked = nil
 }
 
-// sizes are all up to a hundred or so, and some great ones.
+// sizes are all up to some hundred, and great ones.
 func sizes() []uint64 {
 	l := []uint64{most, most - 1, most/2 + 1, 0x2aaaaaaaaaaaaaaa, 0x0123456789abcdef}
-	for n := range uint64(130) {
+	for n := range some + 1 {
 		l = append(l, n)
 	}
 	return l
